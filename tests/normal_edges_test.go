@@ -14,8 +14,8 @@ var wrongRunes = []int{
 	1114112, 1 << 21, math.MaxInt32, 1<<32 + 0x301, 1<<32 + 0xC0, 1<<32 + 0xAC00, 1<<40 + 0x1100, math.MaxInt - 27, math.MaxInt,
 }
 
-// notTakenApart fails unless l has no NormalD, and what hangs on it the zero answer.
-func notTakenApart(t *testing.T, l []int) {
+// noForms fails unless NormalD and NormalC of l give the zero answer.
+func noForms(t *testing.T, l []int) {
 	t.Helper()
 	if got, ok := impl.NormalD(l); ok || len(got) != 0 {
 		t.Errorf("NormalD of %d runes = %X %v", len(l), got, ok)
@@ -23,21 +23,47 @@ func notTakenApart(t *testing.T, l []int) {
 	if got, ok := impl.NormalC(l); ok || len(got) != 0 {
 		t.Errorf("NormalC of %d runes = %X %v", len(l), got, ok)
 	}
-	if is, ok := impl.IsNormalD(l); ok || is {
-		t.Errorf("IsNormalD of %d runes = %v %v", len(l), is, ok)
-	}
-	for _, p := range [][2][]int{{l, l}, {l, nil}, {nil, l}, {l, {'a'}}, {{'a'}, l}} {
-		if same, ok := impl.SameRunes(p[0], p[1]); ok || same {
-			t.Errorf("SameRunes of %d and %d runes = %v %v", len(p[0]), len(p[1]), same, ok)
+}
+
+// checkSame fails unless SameRunes of these two tells this, whichever is the first.
+func checkSame(t *testing.T, a, b []int, same, good bool) {
+	t.Helper()
+	for _, p := range [][2][]int{{a, b}, {b, a}} {
+		if is, ok := impl.SameRunes(p[0], p[1]); is != same || ok != good {
+			t.Errorf("SameRunes(%X, %X) = %v %v, asked for %v %v", p[0], p[1], is, ok, same, good)
 		}
 	}
 }
 
+// refusedList fails unless all that take a list give the zero answer.
 func refusedList(t *testing.T, l []int) {
 	t.Helper()
-	notTakenApart(t, l)
+	noForms(t, l)
 	if got, ok := impl.SortMarks(l); ok || len(got) != 0 {
 		t.Errorf("SortMarks of %d runes = %X %v", len(l), got, ok)
+	}
+	if is, ok := impl.IsNormalD(l); ok || is {
+		t.Errorf("IsNormalD of %d runes = %v %v", len(l), is, ok)
+	}
+	for _, other := range [][]int{l, nil, {'a'}} {
+		checkSame(t, l, other, false, false)
+	}
+}
+
+// growsBeyond fails unless l, good runes that are more than MaxRunes when they are taken apart, has no
+// forms, but is told of by all that hand out no list of them.
+func growsBeyond(t *testing.T, l []int) {
+	t.Helper()
+	noForms(t, l)
+	if got, ok := impl.SortMarks(l); !ok || !slices.Equal(got, slowSort(l)) {
+		t.Errorf("SortMarks(%X) = %X %v", l, got, ok)
+	}
+	if is, ok := impl.IsNormalD(l); !ok || is {
+		t.Errorf("IsNormalD(%X) = %v %v, asked for false true", l, is, ok)
+	}
+	checkSame(t, l, l, true, true)
+	for _, other := range [][]int{nil, {'a'}, l[:len(l)-1], l[1:]} {
+		checkSame(t, l, other, slices.Equal(slowNormalD(l), slowNormalD(other)), true)
 	}
 }
 
@@ -100,21 +126,50 @@ func TestListsThatGrowAsTheyAreTakenApart(t *testing.T) {
 			slices.Repeat([]int{p.r}, n+1),
 			slices.Repeat([]int{p.r}, impl.MaxRunes),
 		} {
-			notTakenApart(t, l)
-			if got, ok := impl.SortMarks(l); !ok || !slices.Equal(got, l) {
-				t.Errorf("SortMarks(%X) = %X %v", l, got, ok)
-			}
+			growsBeyond(t, l)
 		}
 		refusedList(t, slices.Repeat([]int{p.r}, impl.MaxRunes+1))
 	}
 }
 
-// A list that goes beyond is refused also where the other one is too, or is none.
-func TestSameRunesOfTwoThatAreRefused(t *testing.T) {
-	grows := slices.Repeat([]int{0xC0}, impl.MaxRunes)
-	for _, p := range [][2][]int{{grows, grows}, {grows, {-1}}, {{-1}, grows}, {{-1}, {-1}}, {{-1}, nil}} {
-		if same, ok := impl.SameRunes(p[0], p[1]); same || ok {
-			t.Errorf("SameRunes of %d and %d runes = %v %v", len(p[0]), len(p[1]), same, ok)
+// times: n times r, and these behind them.
+func times(n int, r int, last ...int) []int {
+	return append(slices.Repeat([]int{r}, n), last...)
+}
+
+// All that is unlike, or spelled otherwise, stands at the end, where the runes taken apart are beyond MaxRunes.
+func TestSameRunesOfListsThatGrow(t *testing.T) {
+	full := impl.MaxRunes / 2
+	for _, p := range []struct {
+		name string
+		a, b []int
+		same bool
+	}{
+		{"the last one spelled by two", times(full+1, 0xE9), times(full, 0xE9, 'e', 0x301), true},
+		{"the last one another", times(full+1, 0xE9), times(full, 0xE9, 0xE8), false},
+		{"one more", times(full+1, 0xE9), times(full+2, 0xE9), false},
+		{"one beyond, one exactly at the limit", times(full, 0xE9, 'x'), times(full, 0xE9), false},
+		{"of its runes taken apart the first MaxRunes", times(full, 0xE9, 'x'), slowNormalD(times(full, 0xE9)), false},
+		{"marks sorted", times(full, 0xE9, 's', 0x307, 0x323), times(full, 0xE9, 0x1E69), true},
+		{"marks sorted into the middle of the limit", times(full-1, 0xE9, 'x', 0x301, 0x323, 0x338), times(full-1, 0xE9, 'x', 0x338, 0x323, 0x301), true},
+		{"marks of one class the other way round", times(full, 0xE9, 'x', 0x300, 0x301), times(full, 0xE9, 'x', 0x301, 0x300), false},
+		{"one part and two", times(impl.MaxRunes, 0x212B), times(impl.MaxRunes, 0xC5), true},
+		{"three parts each", times(impl.MaxRunes, 0xAC01), times(impl.MaxRunes, 0xAC01), true},
+		{"three parts each, but the last one", times(impl.MaxRunes, 0xAC01), times(impl.MaxRunes-1, 0xAC01, 0xAC00), false},
+		{"three parts each, two and one", times(full, 0xAC01), slices.Repeat([]int{0xAC00, 0x11A8}, full), true},
+		{"in two steps and in one", times(impl.MaxRunes, 0x1E69), times(impl.MaxRunes, 0x1EA5), false},
+	} {
+		t.Run(p.name, func(t *testing.T) {
+			checkSame(t, p.a, p.b, p.same, true)
+		})
+	}
+}
+
+func TestSameRunesOfTwoOneOfWhichIsNotGood(t *testing.T) {
+	grows := times(impl.MaxRunes, 0xC0)
+	for _, bad := range [][]int{{-1}, times(impl.MaxRunes-1, 0xC0, 55296), times(impl.MaxRunes+1, 0xC0), times(impl.MaxRunes+1, 'a')} {
+		for _, other := range [][]int{grows, grows[:1], nil, {-1}, bad} {
+			checkSame(t, bad, other, false, false)
 		}
 	}
 }
