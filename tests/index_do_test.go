@@ -291,14 +291,16 @@ func TestCheckpointsThatAreFull(t *testing.T) {
 	checkpointed(t, d)
 }
 
-// checkPlay fails unless a play is its Dos done one by one.
+// checkPlay fails unless a play is its Dos done one by one, each on what the last one that was not refused left.
 func checkPlay(t *testing.T, d impl.Disk, l []impl.Do) {
 	t.Helper()
 	want := d
 	var codes []int
 	for _, o := range l {
-		var code int
-		want, code = slowDo(want, o)
+		next, code := slowDo(want, o)
+		if code == impl.IndexOk {
+			want = next
+		}
 		codes = append(codes, code)
 	}
 	if got, is, ok := impl.PlayIndex(d, l); !ok || !sameDisk(got, want) || !slices.Equal(is, codes) {
@@ -354,15 +356,50 @@ func TestPlayIndexWithCodesBetween(t *testing.T) {
 	}
 }
 
-// A Do that is bad leaves the zero disk, as DoIndex tells it; it is a good one, and what follows is done on it.
+// Dos that are bad of themselves, at any disk.
+var badDos = []impl.Do{
+	{}, {Kind: 5}, {Kind: -1}, {Kind: least}, {Kind: most}, {Kind: 0, Text: "a"}, {Kind: 5, Text: "a", Value: "v"},
+	{Kind: impl.DoDrop, Text: "a", Value: "v"}, {Kind: impl.DoDrop, Value: "v"},
+	{Kind: impl.DoSync, Text: "a"}, {Kind: impl.DoSync, Value: "v"}, {Kind: impl.DoSync, Text: "a", Value: "v"},
+	{Kind: impl.DoCheckpoint, Text: "a"}, {Kind: impl.DoCheckpoint, Value: "v"}, {Kind: impl.DoCheckpoint, Text: "\x00"},
+}
+
+// A Do that is bad is refused, and what is refused changes nothing: the play goes on with the disk as it was.
 func TestPlayIndexWithABadDo(t *testing.T) {
-	for _, bad := range []impl.Do{{}, {Kind: 5}, {Kind: -1}, {Kind: impl.DoSync, Text: "a"}, {Kind: impl.DoCheckpoint, Value: "v"}, {Kind: impl.DoDrop, Text: "a", Value: "v"}} {
-		l := slices.Concat(done("put q=1", "sync"), []impl.Do{bad}, done("put ch=2", "drop a", "put cz=3"))
-		got, codes, ok := impl.PlayIndex(someDisk(t), l)
-		if !ok || !slices.Equal(codes, []int{0, 0, 1, 0, 4, 0}) || !sameDisk(got, logged("", "put ch=2", "put cz=3")) {
-			t.Errorf("PlayIndex with %#v = %#v %v %v", bad, got, codes, ok)
+	for _, bad := range badDos {
+		d := impl.Disk{Log: "p\x01\x01a1."}
+		got, codes, ok := impl.PlayIndex(d, []impl.Do{bad})
+		if !ok || !slices.Equal(codes, []int{1}) || !sameDisk(got, d) {
+			t.Errorf("PlayIndex of %#v alone = %#v %v %v", bad, got, codes, ok)
 		}
-		checkPlay(t, someDisk(t), l)
-		checkPlay(t, someDisk(t), append(l, bad))
+		got, codes, ok = impl.PlayIndex(d, append([]impl.Do{bad}, done("put b=2")...))
+		if !ok || !slices.Equal(codes, []int{1, 0}) || !sameDisk(got, impl.Disk{Log: "p\x01\x01a1.p\x01\x01b2."}) {
+			t.Errorf("PlayIndex of %#v and a put = %#v %v %v", bad, got, codes, ok)
+		}
+		got, codes, ok = impl.PlayIndex(d, slices.Concat(done("sync", "drop a"), []impl.Do{bad}, done("drop a")))
+		if !ok || !slices.Equal(codes, []int{0, 0, 1, 4}) || !sameDisk(got, impl.Disk{Log: "p\x01\x01a1.d\x01a.", Synced: 6}) {
+			t.Errorf("PlayIndex of drops around %#v = %#v %v %v", bad, got, codes, ok)
+		}
+		// Beside DoIndex's own code stands the zero disk none the less.
+		checkDo(t, d, bad, impl.Disk{}, impl.IndexBad)
+	}
+}
+
+// Rules, pages and what is synced stay too, and keys are made by these rules behind it.
+func TestPlayIndexWithBadDosBetween(t *testing.T) {
+	for _, bad := range badDos {
+		one := []impl.Do{bad}
+		for _, d := range []impl.Disk{{}, {Rules: "[levels 1]"}, someDisk(t)} {
+			checkPlay(t, d, one)
+			checkPlay(t, d, slices.Concat(one, done("put q=1", "sync"), one, done("put ch=2", "drop a", "put cz=3"), one))
+			checkPlay(t, d, slices.Concat(done("put q=1", "checkpoint"), one, one, done("drop Q", "drop q", "put c\x07h"), one, done("sync"), one, done("checkpoint")))
+			checkPlay(t, d, slices.Repeat(one, 60))
+		}
+		d, codes, ok := impl.PlayIndex(impl.Disk{Rules: "& c < ch"}, slices.Concat(done("put ch=1", "checkpoint", "put cz=2", "sync"), one, done("put d=3")))
+		want := impl.Disk{Rules: "& c < ch", Pages: pagesOf(t, keyed(t, "& c < ch", "ch=1")), Log: "p\x02\x01cz2.p\x01\x01d3.", Synced: 7}
+		if !ok || !slices.Equal(codes, []int{0, 0, 0, 0, 1, 0}) || !sameDisk(d, want) {
+			t.Errorf("PlayIndex with %#v = %#v %v %v, asked for %#v", bad, d, codes, ok, want)
+		}
+		checkRows(t, d, keyed(t, "& c < ch", "cz=2", "ch=1", "d=3"))
 	}
 }
